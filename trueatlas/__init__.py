@@ -1,0 +1,1 @@
+"""Trueatlas: a map that shows what is."""
