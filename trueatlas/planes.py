@@ -1,0 +1,185 @@
+"""Planes: points and edges that meet only at common ends, their half-edges, cycles and parts."""
+
+from trueatlas.checks import is_pair, is_whole, need
+from trueatlas.cleaning import are_clean
+from trueatlas.sides import are_points, is_on, is_point, joining
+
+MOST_POINTS = 60
+MOST_EDGES = 120
+
+
+def ascends(row):
+    """Whether each item of a row is less than the next one."""
+    return all(first < second for first, second in zip(row, row[1:]))
+
+
+def is_edge(value, many):
+    """Whether the value is a pair of two different indexes below this number, the lesser one first."""
+    if not is_pair(value) or not is_whole(value[0]) or not is_whole(value[1]):
+        return False
+    return 0 <= value[0] < value[1] < many
+
+
+def edge_segments(plane):
+    """The segments for which the edges stand, in the order of the edges, which is ascending."""
+    points, edges = plane
+    return [(points[i], points[j]) for i, j in edges]
+
+
+def is_bare(p, segments):
+    """Whether a point lies on none of the segments of which it is no end."""
+    return not any(is_on(p, segment) and p not in segment for segment in segments)
+
+
+def is_plane(value):
+    """Whether the value is a plane."""
+    if not is_pair(value):
+        return False
+    points, edges = value
+    if not are_points(points, 1, MOST_POINTS) or not ascends(points):
+        return False
+    if not isinstance(edges, tuple) or len(edges) > MOST_EDGES:
+        return False
+    if not all(is_edge(edge, len(points)) for edge in edges) or not ascends(edges):
+        return False
+    segments = edge_segments(value)
+    return are_clean(segments) and all(is_bare(p, segments) for p in points)
+
+
+def is_way(value):
+    """Whether the value is a pair of different points, in either order."""
+    return is_pair(value) and is_point(value[0]) and is_point(value[1]) and value[0] != value[1]
+
+
+def are_ways(value):
+    """Whether the value is a list of 1 to 120 pairs of different points."""
+    return isinstance(value, list) and 1 <= len(value) <= MOST_EDGES and all(is_way(item) for item in value)
+
+
+def plane_of(segments):
+    """The plane whose edges are these segments."""
+    need(are_ways(segments), "segments")
+    edges = sorted({joining(p, q) for p, q in segments})
+    points = sorted({p for edge in edges for p in edge})
+    need(len(points) <= MOST_POINTS and are_clean(edges), "segments")
+    index_of = {p: index for index, p in enumerate(points)}
+    return (tuple(points), tuple([(index_of[p], index_of[q]) for p, q in edges]))
+
+
+def is_half(plane, value):
+    """Whether the value is a half-edge of the plane."""
+    points, edges = plane
+    if not is_pair(value):
+        return False
+    return any(is_edge(way, len(points)) and way in edges for way in (value, value[::-1]))
+
+
+def half_edges(plane):
+    """The half-edges of a plane in ascending order."""
+    return sorted([*plane[1], *[(j, i) for i, j in plane[1]]])
+
+
+def comes_before(first, second):
+    """Whether one of two different directions comes first, counter-clockwise, with the south as the last one."""
+    # Directions less than (0, 0) lead to the west or straight down: the second half of the turn.
+    if (first < (0, 0)) != (second < (0, 0)):
+        return second < (0, 0)
+    return first[0] * second[1] - first[1] * second[0] > 0
+
+
+def in_turn(points, centre, others):
+    """The indexes of other points in the order of their directions from the centre, counter-clockwise."""
+    x, y = points[centre]
+    ways = {k: (points[k][0] - x, points[k][1] - y) for k in others}
+    row = []
+    for k in others:
+        place = 0
+        while place < len(row) and comes_before(ways[row[place]], ways[k]):
+            place += 1
+        row.insert(place, k)
+    return row
+
+
+def points_around(plane):
+    """For each point, the points to which it has edges, counter-clockwise."""
+    points, edges = plane
+    others = [[] for _ in points]
+    for i, j in edges:
+        others[i].append(j)
+        others[j].append(i)
+    return [in_turn(points, centre, row) for centre, row in enumerate(others)]
+
+
+def half_after(around, half):
+    """The next half-edge, for the points around each point."""
+    i, j = half
+    return (j, around[j][around[j].index(i) - 1])
+
+
+def cycles_of(plane):
+    """The cycles of a plane that has been checked."""
+    around = points_around(plane)
+    seen = set()
+    cycles = []
+    for start in half_edges(plane):
+        if start in seen:
+            continue
+        cycle = []
+        half = start
+        while half not in seen:
+            seen.add(half)
+            cycle.append(half[0])
+            half = half_after(around, half)
+        cycles.append(tuple(cycle))
+    return cycles
+
+
+def halves_of(cycle):
+    """The half-edges of a cycle, in its order."""
+    return list(zip(cycle, cycle[1:] + cycle[:1]))
+
+
+def sizes_of(plane, cycles):
+    """The sizes of the cycles of a plane."""
+    points, _ = plane
+    sizes = []
+    for cycle in cycles:
+        ways = [(points[i], points[j]) for i, j in halves_of(cycle)]
+        sizes.append(sum(p[0] * q[1] - p[1] * q[0] for p, q in ways))
+    return sizes
+
+
+def least_of_parts(plane):
+    """For each point, the least point of its part."""
+    points, edges = plane
+    least = list(range(len(points)))
+    for i, j in edges:
+        low, high = min(least[i], least[j]), max(least[i], least[j])
+        least = [low if k == high else k for k in least]
+    return least
+
+
+def next_half(plane, half):
+    """The next half-edge behind a half-edge of the plane."""
+    need(is_plane(plane), "plane")
+    need(is_half(plane, half), "half")
+    return half_after(points_around(plane), half)
+
+
+def cycle_list(plane):
+    """The cycles, tuples of the indexes of their points."""
+    need(is_plane(plane), "plane")
+    return cycles_of(plane)
+
+
+def cycle_sizes(plane):
+    """The sizes of the cycles, in their order."""
+    need(is_plane(plane), "plane")
+    return sizes_of(plane, cycles_of(plane))
+
+
+def part_list(plane):
+    """The parts, each a tuple of the indexes of its points in ascending order."""
+    need(is_plane(plane), "plane")
+    least = least_of_parts(plane)
+    return [tuple([k for k, low in enumerate(least) if low == first]) for first in sorted(set(least))]
