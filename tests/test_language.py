@@ -218,6 +218,44 @@ class LanguageTest(unittest.TestCase):
                 self.assertIsInstance(node.exc, ast.Call, (name, line))
                 self.assertTrue(node.exc.func.id[0].isupper(), (name, line))
 
+    def parents(self):
+        """Each node with the one around it."""
+        for path, tree in files():
+            for around in ast.walk(tree):
+                for node in ast.iter_child_nodes(around):
+                    yield f"{path.name}:{getattr(node, 'lineno', 0)}", around, node
+
+    def calls(self, node, names):
+        """Whether the node is a call of one of these builtins."""
+        return isinstance(node, ast.Call) and isinstance(node.func, ast.Name) and node.func.id in names
+
+    def test_where_sets_stand(self):
+        """A set is sorted or measured without keywords, compared, asked, or kept by a variable (L24)."""
+        for place, around, node in self.parents():
+            if isinstance(node, (ast.Set, ast.SetComp)) or self.calls(node, {"set"}):
+                direct = self.calls(around, {"sorted", "len"}) and not around.keywords
+                self.assertTrue(direct or isinstance(around, (ast.Compare, ast.Assign)), place)
+
+    def test_where_ranges_and_zips_stand(self):
+        """What is iterated at once is not kept, passed on or asked by "in" (L23)."""
+        takers = {"list", "tuple", "dict", "sorted", "sum", "any", "all", "enumerate", "zip", "min", "max", "len"}
+        for place, around, node in self.parents():
+            views = isinstance(node, ast.Call) and isinstance(node.func, ast.Attribute)
+            if views and node.func.attr in ("items", "keys", "values") or self.calls(
+                    node, {"zip", "enumerate", "reversed", "range", "map"}):
+                loop = isinstance(around, (ast.For, ast.comprehension)) and around.iter is node
+                plain = self.calls(node, {"range"}) and (
+                    isinstance(around, ast.Assign) or self.calls(around, {"reversed"}))
+                self.assertTrue(loop or plain or self.calls(around, takers), place)
+
+    def test_where_generator_expressions_stand(self):
+        """They stand directly in a call that uses them up, beside nothing but names and literals (L7)."""
+        for place, around, node in self.parents():
+            if isinstance(node, ast.GeneratorExp):
+                self.assertTrue(self.calls(around, {"list", "tuple", "dict", "sorted", "sum", "min", "max", "any",
+                                                    "all"}), place)
+                self.assertTrue(all(isinstance(item.value, (ast.Name, ast.Constant)) for item in around.keywords), place)
+
     def test_kept_sets(self):
         """A set that a variable keeps is only asked, measured, sorted and added to (L24)."""
         for path, tree in files():

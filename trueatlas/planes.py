@@ -1,16 +1,11 @@
 """Planes: points and edges that meet only at common ends, their half-edges, cycles and parts."""
 
-from trueatlas.checks import is_pair, is_whole, need
+from trueatlas.checks import ascends, is_pair, is_whole, need
 from trueatlas.cleaning import are_clean
 from trueatlas.sides import are_points, is_on, is_point, joining
 
 MOST_POINTS = 60
 MOST_EDGES = 120
-
-
-def ascends(row):
-    """Whether each item of a row is less than the next one."""
-    return all(first < second for first, second in zip(row, row[1:]))
 
 
 def is_edge(value, many):
@@ -87,27 +82,33 @@ def comes_before(first, second):
     return first[0] * second[1] - first[1] * second[0] > 0
 
 
-def in_turn(points, centre, others):
-    """The indexes of other points in the order of their directions from the centre, counter-clockwise."""
-    x, y = points[centre]
-    ways = {k: (points[k][0] - x, points[k][1] - y) for k in others}
+def in_turn(directions):
+    """The keys of some directions in the order of these directions, counter-clockwise."""
     row = []
-    for k in others:
+    for k in directions:
         place = 0
-        while place < len(row) and comes_before(ways[row[place]], ways[k]):
+        while place < len(row) and comes_before(directions[row[place]], directions[k]):
             place += 1
         row.insert(place, k)
     return row
 
 
-def points_around(plane):
-    """For each point, the points to which it has edges, counter-clockwise."""
-    points, edges = plane
-    others = [[] for _ in points]
+def ends_beside(many, edges):
+    """For each of as many points, the other ends of its edges."""
+    others = [[] for _ in range(many)]
     for i, j in edges:
         others[i].append(j)
         others[j].append(i)
-    return [in_turn(points, centre, row) for centre, row in enumerate(others)]
+    return others
+
+
+def points_around(plane):
+    """For each point, the points to which it has edges, counter-clockwise."""
+    points, edges = plane
+    found = []
+    for (x, y), row in zip(points, ends_beside(len(points), edges)):
+        found.append(in_turn({k: (points[k][0] - x, points[k][1] - y) for k in row}))
+    return found
 
 
 def half_after(around, half):
@@ -116,12 +117,11 @@ def half_after(around, half):
     return (j, around[j][around[j].index(i) - 1])
 
 
-def cycles_of(plane):
-    """The cycles of a plane that has been checked."""
-    around = points_around(plane)
+def cycles_along(halves, around):
+    """The cycles in which some half-edges follow each other, for the points around each point."""
     seen = set()
     cycles = []
-    for start in half_edges(plane):
+    for start in halves:
         if start in seen:
             continue
         cycle = []
@@ -132,6 +132,11 @@ def cycles_of(plane):
             half = half_after(around, half)
         cycles.append(tuple(cycle))
     return cycles
+
+
+def cycles_of(plane):
+    """The cycles of a plane that has been checked."""
+    return cycles_along(half_edges(plane), points_around(plane))
 
 
 def halves_of(cycle):
