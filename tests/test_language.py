@@ -15,7 +15,7 @@ BUILTINS = set("""
 METHODS = set("""
     append clear copy count endswith extend find get index insert isalnum isalpha isdigit islower isspace isupper items
     join keys ljust lower lstrip partition pop remove replace reverse rfind rjust rpartition rsplit rstrip setdefault
-    split splitlines startswith strip update upper values zfill bit_length add discard
+    split splitlines startswith strip update upper values zfill bit_length add discard removeprefix removesuffix
     """.split())
 
 LIBRARY = {
@@ -203,10 +203,33 @@ class LanguageTest(unittest.TestCase):
                 self.assertNotIn(name, BARRED, path)
                 self.assertFalse(name.startswith("__"), (path, name))
 
+    def own_methods(self):
+        """The names of the methods of the classes, and those of the attributes, by class."""
+        for path, tree in files():
+            for node in tree.body:
+                if isinstance(node, ast.ClassDef):
+                    methods = [item.name for item in node.body if isinstance(item, ast.FunctionDef)]
+                    attributes = {item.attr for item in ast.walk(node) if isinstance(item, ast.Attribute)
+                                  and isinstance(item.ctx, ast.Store)}
+                    yield node.name, methods, attributes
+
+    def test_classes(self):
+        """Nothing but methods, each once, with names of which none is an attribute, too (L5, L18, L26)."""
+        kinds = (str, int, list, dict, set, bytes, tuple)
+        for name, methods, attributes in self.own_methods():
+            self.assertEqual(len(methods), len(set(methods)), name)
+            self.assertEqual(sorted(attributes & set(methods)), [], name)
+            self.none([one for one in [*methods, *attributes]
+                       if not one.startswith("__") and any(hasattr(kind, one) for kind in kinds)])
+        for name, line, node in self.walk():
+            if isinstance(node, ast.ClassDef):
+                self.none([item for item in node.body if not isinstance(item, (ast.FunctionDef, ast.Expr))])
+
     def test_methods(self):
+        known = METHODS | {method for _, methods, _ in self.own_methods() for method in methods}
         for name, line, node in self.walk():
             if isinstance(node, ast.Call) and isinstance(node.func, ast.Attribute):
-                self.assertIn(node.func.attr, METHODS, (name, line))
+                self.assertIn(node.func.attr, known, (name, line))
             if isinstance(node, ast.ClassDef):
                 for item in node.body:
                     if isinstance(item, ast.FunctionDef) and item.name.startswith("__"):
@@ -255,6 +278,31 @@ class LanguageTest(unittest.TestCase):
                 self.assertTrue(self.calls(around, {"list", "tuple", "dict", "sorted", "sum", "min", "max", "any",
                                                     "all"}), place)
                 self.assertTrue(all(isinstance(item.value, (ast.Name, ast.Constant)) for item in around.keywords), place)
+
+    def test_where_products_stand(self):
+        """They are iterated at once, but by no generator expression (L2)."""
+        takers = {"list", "tuple", "sorted", "sum", "min", "max", "any", "all"}
+        generators = [item for _, _, node in self.walk() if isinstance(node, ast.GeneratorExp)
+                      for item in ast.walk(node)]
+        for place, around, node in self.parents():
+            if self.calls(node, {"product", "combinations", "permutations"}):
+                loop = isinstance(around, (ast.For, ast.comprehension)) and around.iter is node
+                self.assertTrue(loop or self.calls(around, takers), place)
+                self.assertNotIn(ast.dump(node), [ast.dump(item) for item in generators], place)
+                self.assertTrue(all(isinstance(item, (ast.Name, ast.Constant)) for item in node.args), place)
+
+    def test_what_a_loop_goes_over_stays(self):
+        """Nothing that a loop or a comprehension iterates over by its name is changed in it (L23)."""
+        changing = {"append", "clear", "extend", "insert", "pop", "remove", "reverse", "setdefault", "update", "sort"}
+        for name, line, loop in self.walk():
+            if not isinstance(loop, ast.For):
+                continue
+            over = {ast.unparse(item) for item in ast.walk(loop.iter) if isinstance(item, (ast.Name, ast.Attribute))}
+            for node in [item for part in loop.body for item in ast.walk(part)]:
+                if isinstance(node, ast.Call) and isinstance(node.func, ast.Attribute) and node.func.attr in changing:
+                    self.assertNotIn(ast.unparse(node.func.value), over, (name, node.lineno))
+                if isinstance(node, ast.Subscript) and not isinstance(node.ctx, ast.Load):
+                    self.assertNotIn(ast.unparse(node.value), over, (name, node.lineno))
 
     def test_kept_sets(self):
         """A set that a variable keeps is only asked, measured, sorted and added to (L24)."""

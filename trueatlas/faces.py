@@ -1,8 +1,8 @@
 """The faces of a plane: what is left of it without its points and edges."""
 
 from trueatlas.checks import is_whole, need
-from trueatlas.planes import (cycles_of, edge_segments, half_edges, halves_of, is_half, is_plane, least_of_parts,
-                              sizes_of)
+from trueatlas.parts import least_joined
+from trueatlas.planes import cycles_of, edge_segments, half_edges, halves_of, is_half, is_plane, sizes_of
 from trueatlas.sides import crosses_east, is_on, is_point
 
 
@@ -27,8 +27,8 @@ def least_around(sizes, around):
 
 def faces_by_cycle(plane, cycles, sizes):
     """The face to which each cycle belongs."""
-    points, _ = plane
-    part = least_of_parts(plane)
+    points, edges = plane
+    part = least_joined(len(points), edges)
     outers = outer_cycles(sizes)
     found = []
     for k, cycle in enumerate(cycles):

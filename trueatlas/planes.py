@@ -2,6 +2,7 @@
 
 from trueatlas.checks import ascends, is_pair, is_whole, need
 from trueatlas.cleaning import are_clean
+from trueatlas.parts import groups_joined
 from trueatlas.sides import are_points, is_on, is_point, joining
 
 MOST_POINTS = 60
@@ -154,16 +155,6 @@ def sizes_of(plane, cycles):
     return sizes
 
 
-def least_of_parts(plane):
-    """For each point, the least point of its part."""
-    points, edges = plane
-    least = list(range(len(points)))
-    for i, j in edges:
-        low, high = min(least[i], least[j]), max(least[i], least[j])
-        least = [low if k == high else k for k in least]
-    return least
-
-
 def next_half(plane, half):
     """The next half-edge behind a half-edge of the plane."""
     need(is_plane(plane), "plane")
@@ -186,5 +177,5 @@ def cycle_sizes(plane):
 def part_list(plane):
     """The parts, each a tuple of the indexes of its points in ascending order."""
     need(is_plane(plane), "plane")
-    least = least_of_parts(plane)
-    return [tuple([k for k, low in enumerate(least) if low == first]) for first in sorted(set(least))]
+    points, edges = plane
+    return groups_joined(len(points), edges)

@@ -101,6 +101,45 @@ def starts_in(shape, other):
     return any(has_place(other, row[0]) for row in rows_of(shape))
 
 
+def is_inside(shape, box):
+    """Whether all points of a shape are points of a box, both of which have been checked."""
+    x0, y0, x1, y1 = box_around(shape)
+    return is_place_in((x0, y0), box) and is_place_in((x1, y1), box)
+
+
+def reaches_box(shape, box):
+    """Whether a shape and a box have a common point, both of which have been checked."""
+    if any(edge_meets_box(edge, box) for edge in edges_of(shape)):
+        return True
+    # No edge comes into the box, so all of it is in the shape or nothing; only a point can still be in it.
+    return has_place(shape, (box[0], box[1])) or any(is_place_in(row[0], box) for row in rows_of(shape))
+
+
+def reaches_shape(first, second):
+    """Whether two shapes have a common point, both of which have been checked."""
+    others = edges_of(second)
+    if any(meeting_of(edge, other) != ("none",) for edge in edges_of(first) for other in others):
+        return True
+    # No edges meet, so all of a row lies in the other shape or nothing of it.
+    return starts_in(first, second) or starts_in(second, first)
+
+
+def square_to(shape, p):
+    """The square of the distance between a shape and a point, both of which have been checked."""
+    if has_place(shape, p):
+        return (0, 1)
+    if shape[0] == "point":
+        wide, high = p[0] - shape[1][0], p[1] - shape[1][1]
+        return (wide * wide + high * high, 1)
+    edges = edges_of(shape)
+    best = gap_to(p, edges[0])
+    for edge in edges:
+        gap = gap_to(p, edge)
+        if less(gap, best):
+            best = gap
+    return best
+
+
 def box_of(shape):
     """The least box that contains the shape."""
     need(is_shape(shape), "shape")
@@ -118,44 +157,25 @@ def lies_in(shape, box):
     """Whether all points of the shape are points of the box."""
     need(is_shape(shape), "shape")
     need(is_box(box), "box")
-    x0, y0, x1, y1 = box_around(shape)
-    return is_place_in((x0, y0), box) and is_place_in((x1, y1), box)
+    return is_inside(shape, box)
 
 
 def meets_box(shape, box):
     """Whether the shape and the box have a common point."""
     need(is_shape(shape), "shape")
     need(is_box(box), "box")
-    if any(edge_meets_box(edge, box) for edge in edges_of(shape)):
-        return True
-    # No edge comes into the box, so all of it is in the shape or nothing; only a point can still be in it.
-    return has_place(shape, (box[0], box[1])) or any(is_place_in(row[0], box) for row in rows_of(shape))
+    return reaches_box(shape, box)
 
 
 def meet(first, second):
     """Whether the two shapes have a common point."""
     need(is_shape(first), "first")
     need(is_shape(second), "second")
-    others = edges_of(second)
-    if any(meeting_of(edge, other) != ("none",) for edge in edges_of(first) for other in others):
-        return True
-    # No edges meet, so all of a row lies in the other shape or nothing of it.
-    return starts_in(first, second) or starts_in(second, first)
+    return reaches_shape(first, second)
 
 
 def square_distance(shape, point):
     """The square of the distance between the shape and the point, a fraction."""
     need(is_shape(shape), "shape")
     need(is_point(point), "point")
-    if has_place(shape, point):
-        return (0, 1)
-    if shape[0] == "point":
-        wide, high = point[0] - shape[1][0], point[1] - shape[1][1]
-        return (wide * wide + high * high, 1)
-    edges = edges_of(shape)
-    best = gap_to(point, edges[0])
-    for edge in edges:
-        gap = gap_to(point, edge)
-        if less(gap, best):
-            best = gap
-    return best
+    return square_to(shape, point)

@@ -98,13 +98,16 @@ def changed_things(old, new):
     return [thing for thing in old if thing not in new] + [thing for thing in new if thing not in old]
 
 
+def bounds_touched(old, new, style, scale):
+    """The bounds of the reaches of the changed things, as they are in either of the two maps."""
+    found = [reach_of(thing, style, scale) for thing in changed_things(old, new)]
+    return [bounds for bounds in found if bounds is not None]
+
+
 def tiles_touched(old, new, style, scale):
     """The tiles that the change can touch, for arguments that have been checked."""
     found = {}
-    for thing in changed_things(old, new):
-        bounds = reach_of(thing, style, scale)
-        if bounds is None:
-            continue
+    for bounds in bounds_touched(old, new, style, scale):
         for tile in tiles_in(scale, bounds):
             found[tile] = True
         if len(found) > MOST_TOUCHED:
