@@ -77,8 +77,10 @@ class InBoxTest(Case):
         self.same(in_box(THINGS, (0, 0, 5, 5), "in"), ["square"])
 
     def test_some(self):
-        for box, lying, met in (((0, 0, 6, 8), ["road", "square"], ["road", "square"]), ((6, 0, 6, 8), ["road"], ["road"]),
-                                ((5, 0, 5, 9), [], []), ((1, 1, 1, 1), [], ["square"]), ((4, 4, 6, 4), [], ["road", "square"]),
+        for box, lying, met in (((0, 0, 6, 8), ["road", "square"], ["road", "square"]),
+                                ((6, 0, 6, 8), ["road"], ["road"]),
+                                ((5, 0, 5, 9), [], []), ((1, 1, 1, 1), [], ["square"]),
+                                ((4, 4, 6, 4), [], ["road", "square"]),
                                 ((-9, -9, 9, 3), [], ["road", "square"]), ((7, 0, 9, 9), [], []),
                                 ((0, 0, 4, 4), ["square"], ["square"]), ((0, 0, 4, 3), [], ["square"])):
             self.same(in_box(THINGS, box, "in"), lying)
@@ -146,7 +148,8 @@ class NearestTest(Case):
         self.same(nearest((), (4, 2), None, 60), [])
         found = nearest(SIXTY[:60], (0, 0), None, 60)
         self.same(found, [(f"t{k:02d}", (2 * k * k, 1)) for k in range(60)])
-        self.same(nearest(SIXTY[:60], (59, 59), None, 59), [(f"t{k:02d}", (2 * (59 - k) ** 2, 1)) for k in range(59, 0, -1)])
+        self.same(nearest(SIXTY[:60], (59, 59), None, 59),
+                  [(f"t{k:02d}", (2 * (59 - k) ** 2, 1)) for k in range(59, 0, -1)])
 
     def test_kinds(self):
         self.same(nearest(THINGS, (4, 2), "field", 5), [("square", (0, 1))])

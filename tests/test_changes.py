@@ -5,7 +5,8 @@ import unittest
 
 from tests.test_asking import some_things
 from tests.test_painting import each_point
-from tests.test_shapes import BEND, CROSSED, FIELD, HOLED, NO_MAPS, NO_NAMES, NO_SHAPES, NO_THINGS, SIXTY, SPOT, some_shape
+from tests.test_shapes import (BEND, CROSSED, FIELD, HOLED, NO_MAPS, NO_NAMES, NO_SHAPES, NO_THINGS, SIXTY, SPOT,
+                               some_shape)
 from tests.tools import Case, ODD_VALUES
 from trueatlas.changes import is_change, made, opposite, touched
 from trueatlas.shapes import is_map
@@ -14,7 +15,8 @@ WELL = ("well", "spring", ("point", (3, 4)))
 ROAD = ("road", "way", ("line", ((6, 0), (6, 8))))
 THINGS = (ROAD, WELL)
 OAK = ("oak", "tree", ("point", (0, 0)))
-EACH = [("add", OAK), ("remove", "well"), ("shift", "well", -3, 5), ("reshape", "well", FIELD), ("rekind", "road", "path"),
+EACH = [("add", OAK), ("remove", "well"), ("shift", "well", -3, 5), ("reshape", "well", FIELD),
+        ("rekind", "road", "path"),
         ("rename", "road", "zoo")]
 NO_SHIFTS = [-2001, 2001, 10 ** 20, True, False, None, "0", 0.0, (), (0,), [0], b"0"]
 NO_CHANGE = ODD_VALUES + [("add", value) for value in NO_THINGS] + [
@@ -28,7 +30,8 @@ NO_CHANGE = ODD_VALUES + [("add", value) for value in NO_THINGS] + [
     (None, *change[1:]) for change in EACH] + [((change[0],), *change[1:]) for change in EACH] + [
     ([change[0]], *change[1:]) for change in EACH] + [(change[0].encode(), *change[1:]) for change in EACH] + [
     (EACH[0],), ("add", "oak"), ("add", "oak", "tree", OAK[2]), ("add", THINGS), ("remove", OAK), ("shift", WELL, 1, 0),
-    ("shift", "well", (1, 0)), ("rekind", "well", SPOT), ("reshape", "well", "spring"), ("move", "well", 1, 0), "remove"]
+    ("shift", "well", (1, 0)), ("rekind", "well", SPOT), ("reshape", "well", "spring"), ("move", "well", 1, 0),
+    "remove"]
 # Forms that are no tuple of at most 20 changes.
 NO_CHANGES = [value for value in ODD_VALUES if value != ()] + [(value,) for value in NO_CHANGE[::4]] + [
     EACH, EACH[0], (EACH,), (EACH[2], None), (None, EACH[2]), (("shift", "well", 0, 0),) * 21,
@@ -43,7 +46,8 @@ NOT_MADE = [
     (("rename", "well", "a"), ("rename", "road", "a")), (("rename", "well", "a"), ("add", ("a", "b", SPOT))),
     (("shift", "well", 998, 0),), (("shift", "well", -1004, 0),), (("shift", "well", 0, 997),),
     (("shift", "well", 0, -1005),), (("shift", "well", 2000, 0),), (("shift", "well", -2000, 2000),),
-    (("shift", "road", 0, 993),), (("shift", "road", 0, -1001),), (("shift", "well", 600, 0), ("shift", "well", 398, 0)),
+    (("shift", "road", 0, 993),), (("shift", "road", 0, -1001),),
+    (("shift", "well", 600, 0), ("shift", "well", 398, 0)),
     (("shift", "well", 998, 0), ("shift", "well", -998, 0)),
 ]
 
@@ -105,7 +109,8 @@ def some_changes(source, things, many, names):
 class FormTest(Case):
 
     def test_changes(self):
-        for value in EACH + [("shift", "oak", 2000, -2000), ("shift", "a", 0, 0), ("rename", "a", "a"), ("remove", "a" * 12),
+        for value in EACH + [("shift", "oak", 2000, -2000), ("shift", "a", 0, 0), ("rename", "a", "a"),
+                             ("remove", "a" * 12),
                              ("rekind", "a", "b"), ("reshape", "a", CROSSED), ("add", ("a", "a", HOLED))]:
             self.assertIs(is_change(value), True, value)
         for value in NO_CHANGE:
@@ -115,7 +120,8 @@ class FormTest(Case):
         deep = "a"
         for _ in range(50000):
             deep = (deep,)
-        for value in (deep, ("add", deep), ("remove", deep), ("reshape", "a", deep), ("shift", "a", deep, 0), (deep, "a")):
+        for value in (deep, ("add", deep), ("remove", deep), ("reshape", "a", deep), ("shift", "a", deep, 0),
+                      (deep, "a")):
             self.assertIs(is_change(value), False)
 
 
@@ -123,7 +129,8 @@ class MadeTest(Case):
 
     def test_each(self):
         for change, wanted in zip(EACH, (
-                (OAK, ROAD, WELL), (ROAD,), (ROAD, ("well", "spring", ("point", (0, 9)))), (ROAD, ("well", "spring", FIELD)),
+                (OAK, ROAD, WELL), (ROAD,), (ROAD, ("well", "spring", ("point", (0, 9)))),
+                (ROAD, ("well", "spring", FIELD)),
                 (("road", "path", ROAD[2]), WELL), (WELL, ("zoo", "way", ROAD[2])))):
             self.same(made(THINGS, (change,)), wanted)
 
@@ -198,7 +205,8 @@ class MadeTest(Case):
 
     def test_refused(self):
         for call in (made, opposite):
-            self.refuses(call, ("map_things", THINGS, NO_MAPS[::2]), ("changes", tuple(EACH[2:]), NO_CHANGES + NOT_MADE))
+            self.refuses(call, ("map_things", THINGS, NO_MAPS[::2]),
+                         ("changes", tuple(EACH[2:]), NO_CHANGES + NOT_MADE))
 
 
 class OppositeTest(Case):
@@ -211,7 +219,8 @@ class OppositeTest(Case):
         self.same(opposite(THINGS, (("shift", "well", 0, 0),)), (("shift", "well", 0, 0),))
 
     def test_rows(self):
-        self.same(opposite(THINGS, (("shift", "well", 1, 2), ("rename", "well", "a"), ("rekind", "a", "b"), ("remove", "a"))),
+        self.same(opposite(THINGS, (("shift", "well", 1, 2), ("rename", "well", "a"), ("rekind", "a", "b"),
+                                    ("remove", "a"))),
                   (("add", ("a", "b", ("point", (4, 6)))), ("rekind", "a", "spring"), ("rename", "a", "well"),
                    ("shift", "well", -1, -2)))
         self.same(opposite(THINGS, (("reshape", "well", SPOT), ("reshape", "well", FIELD))),

@@ -52,8 +52,8 @@ CLASSES = {
     ("errors", "BadMap"): "__init__(self, where, why)",
     ("errors", "TooLarge"): "__init__(self, what)",
     ("errors", "TextError"): "__init__(self, line, column, words)",
-    ("stores", "Store"): "__init__(self, map_things, style); picture_of(self, tile); put(self, map_things); kept(self); "
-                         "drawn(self)",
+    ("stores", "Store"): "__init__(self, map_things, style); picture_of(self, tile); put(self, map_things); "
+                         "kept(self); drawn(self)",
     ("journal", "Journal"): "__init__(self, map_things); send(self, sent); map_at(self, version); last(self); "
                             "hands(self); revert(self, hand, version)",
 }

@@ -121,7 +121,8 @@ class SendTest(JournalCase):
         self.same(journal.send(("bob", 0, (("rekind", "road", "path"), ("shift", "road", 1, 1)))), 51)
         self.refused(journal, ("bob", 49, MOVE))
         self.same(journal.send(("bob", 50, MOVE)), 52)
-        self.same(journal.map_at(52), made(journal.map_at(50), (("rekind", "road", "path"), ("shift", "road", 1, 1), *MOVE)))
+        changes = (("rekind", "road", "path"), ("shift", "road", 1, 1), *MOVE)
+        self.same(journal.map_at(52), made(journal.map_at(50), changes))
         self.same(journal.map_at(7), (ROAD, ("well", "spring", ("point", (10, 4)))))
 
     def test_too_many_things(self):
@@ -191,7 +192,8 @@ class SendTest(JournalCase):
                 seen += 1
                 own, found = made(journal.map_at(base), changes), journal.map_at(version)
                 for name in touched(changes):
-                    self.same([thing for thing in found if thing[0] == name], [thing for thing in own if thing[0] == name])
+                    self.same([thing for thing in found if thing[0] == name],
+                              [thing for thing in own if thing[0] == name])
         self.assertGreater(seen, 100)
 
     def test_the_order_of_two_sets(self):
@@ -214,7 +216,8 @@ class SendTest(JournalCase):
     def test_wrong_sets(self):
         journal = Journal(THINGS)
         journal.send(("ann", 0, MOVE))
-        wrongs = ODD_VALUES + [(value, 0, MOVE) for value in NO_NAMES] + [("ann", value, MOVE) for value in NO_VERSIONS + [2]]
+        wrongs = ODD_VALUES + [(value, 0, MOVE) for value in NO_NAMES]
+        wrongs += [("ann", value, MOVE) for value in NO_VERSIONS + [2]]
         wrongs += [("ann", 0, value) for value in NO_CHANGES + NOT_MADE if value != ()]
         wrongs += [("ann", 0, ()), ["ann", 0, MOVE], ("ann", 0), ("ann", 0, MOVE, None), (0, "ann", MOVE), MOVE,
                    ("ann", 0, MOVE[0]), ("ann", 0, list(MOVE)), (("ann", 0, MOVE),)]

@@ -39,7 +39,8 @@ NO_LABELS = without(()) + [(value,) for value in NO_LABEL] + [
 # These are no placements of the three labels above.
 NO_PLACEMENTS = without() + [
     (0, 0), (0, 0, 0, 0), (0, 0, 1), (1, 0, 0), (-1, 0, 0), (0, 0, -1), (0, 0, True), (0, False, 0), [0, 0, 0],
-    (0, 0, "0"), (0, 0, 0.0), (0, 0, (0,)), (None, None, "None"), (0, (1, 0), 0), {0: 0, 1: 0, 2: 0}, "000", (), (None,)]
+    (0, 0, "0"), (0, 0, 0.0), (0, 0, (0,)), (None, None, "None"), (0, (1, 0), 0), {0: 0, 1: 0, 2: 0}, "000", (),
+    (None,)]
 
 
 def do_overlap(a, b):
@@ -134,7 +135,8 @@ class ExcludingTest(Case):
                 self.same(excluding(labels), [((0, 0), (1, 0))] if wanted else [])
 
     def test_of_one_label(self):
-        self.same(excluding((("a", 1, (ROW[0], ROW[9], ROW[4])),)), [((0, 0), (0, 1)), ((0, 0), (0, 2)), ((0, 1), (0, 2))])
+        self.same(excluding((("a", 1, (ROW[0], ROW[9], ROW[4])),)),
+                  [((0, 0), (0, 1)), ((0, 0), (0, 2)), ((0, 1), (0, 2))])
         self.same(excluding(()), [])
         self.same(excluding((("a", 1, (BOX,)),)), [])
 
@@ -163,7 +165,8 @@ class ExcludingTest(Case):
 class PlacementTest(Case):
 
     def test_some(self):
-        for placement, allowed, weight in (((0, None, 0), True, 7), ((None, 0, None), True, 5), ((0, 0, None), False, 9),
+        for placement, allowed, weight in (((0, None, 0), True, 7), ((None, 0, None), True, 5),
+                                           ((0, 0, None), False, 9),
                                            ((0, 0, 0), False, 12), ((None,) * 3, True, 0), ((None, 0, 0), False, 8)):
             self.same(is_allowed(LABELS, placement), allowed)
             self.same(weight_of(LABELS, placement), weight)
@@ -200,13 +203,17 @@ class CandidatesAtTest(Case):
     def test_some(self):
         self.same(candidates_at((7, -5), 2, 4, 0), ((7, -5, 9, -1), (5, -5, 7, -1), (5, -9, 7, -5), (7, -9, 9, -5)))
         self.same(candidates_at((1000, -1000), 200, 1, 20),
-                  ((1020, -980, 1220, -979), (780, -980, 980, -979), (780, -1021, 980, -1020), (1020, -1021, 1220, -1020)))
+                  ((1020, -980, 1220, -979), (780, -980, 980, -979), (780, -1021, 980, -1020),
+                   (1020, -1021, 1220, -1020)))
 
     def test_as_the_document_tells(self):
-        for (x, y), w, h, gap in itertools.product(((0, 0), (-1000, 1000), (13, -7)), (1, 5, 200), (1, 6, 200), (0, 1, 20)):
+        places = ((0, 0), (-1000, 1000), (13, -7))
+        for (x, y), w, h, gap in itertools.product(places, (1, 5, 200), (1, 6, 200), (0, 1, 20)):
             found = candidates_at((x, y), w, h, gap)
-            self.same(found, ((x + gap, y + gap, x + gap + w, y + gap + h), (x - gap - w, y + gap, x - gap, y + gap + h),
-                              (x - gap - w, y - gap - h, x - gap, y - gap), (x + gap, y - gap - h, x + gap + w, y - gap)))
+            self.same(found, ((x + gap, y + gap, x + gap + w, y + gap + h),
+                              (x - gap - w, y + gap, x - gap, y + gap + h),
+                              (x - gap - w, y - gap - h, x - gap, y - gap),
+                              (x + gap, y - gap - h, x + gap + w, y - gap)))
             self.assertIs(is_labels((("a", 1, found),)), True)
             self.assertFalse(any(do_overlap(a, b) for a, b in itertools.combinations(found, 2)))
 

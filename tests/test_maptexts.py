@@ -32,7 +32,7 @@ def numbers(points):
 
 
 def problems_of(line):
-    """The problems of a line by the words of point 131, pairs of a column and words, and its thing if there are none."""
+    """The problems of a line, pairs of a column and words, by the words of point 131; its thing if there are none."""
     words = [(match.start() + 1, match.group()) for match in re.finditer("[^ ]+", line)]
     end = words[-1][0] + len(words[-1][1])
     found = [(match.start() + 2, SPACE) for match in re.finditer("(?<=[^ ])  +(?=[^ ])", line)]
@@ -124,7 +124,8 @@ class MapTextTest(TextCase):
         self.same(map_text((("a", "b", ("line", ((0, -7), (10, 0), (0, -7)))),)), "line a b 0 -7 10 0 0 -7\n")
         self.same(map_text((("a", "b", FIELD),)), f"area a b {SQUARE}\n")
         self.same(map_text((("a", "b", HOLED),)), f"area a b 4 -2 -2 9 -2 9 9 -2 9 {SQUARE}\n")
-        self.same(map_text((("a" * 12, "b9", ("area", (((0, 0), (1, 0), (0, 1)),))),)), "area aaaaaaaaaaaa b9 3 0 0 1 0 0 1\n")
+        self.same(map_text((("a" * 12, "b9", ("area", (((0, 0), (1, 0), (0, 1)),))),)),
+                  "area aaaaaaaaaaaa b9 3 0 0 1 0 0 1\n")
 
     def test_written_and_read(self):
         source = random.Random(130)
@@ -140,7 +141,8 @@ class MapTextTest(TextCase):
 
     def test_written_and_read_at_the_bounds(self):
         for things in (SIXTY[:60], (("a", "k", ("area", (ROUND, COMB))),), (("a", "k", ("line", LONG[:40])),),
-                       (("a", "k", ("area", (FIELD[1][0],) * 6)),), (("a", "k", CROSSED), ("b", "k", BEND), ("c", "k", SPOT))):
+                       (("a", "k", ("area", (FIELD[1][0],) * 6)),),
+                       (("a", "k", CROSSED), ("b", "k", BEND), ("c", "k", SPOT))):
             self.reads(map_text(things), things)
 
     def test_refused(self):
@@ -169,7 +171,8 @@ class ReadMapTest(TextCase):
             self.reads(f"point a b 0 {word}", (("a", "b", ("point", (0, value))),))
 
     def test_a_word_is_expected(self):
-        for word in ("Point", "points", "ring", "poin", "0", "point\t", "\tpoint", "\t", "\r", "-", "point,", "\u00a0", "\u2028"):
+        for word in ("Point", "points", "ring", "poin", "0", "point\t", "\tpoint", "\t", "\r", "-", "point,", "\u00a0",
+                     "\u2028"):
             self.line_fails(f"{word} a b 1 2", 1, WORD)
             self.line_fails(word, 1, WORD)
         for line in (" point a b 1 2", "  point a b 1 2", " x", "   area", " \t"):
@@ -177,7 +180,8 @@ class ReadMapTest(TextCase):
         self.line_fails("Point  A", 1, WORD)
 
     def test_a_name_is_expected(self):
-        for word in ("A", "aB", "1a", "-", "0", "a_b", "a" * 13, "\u00e4", "a\u00b2", "a\u0661", "\t", "b\r", "a\ta", "point,"):
+        for word in ("A", "aB", "1a", "-", "0", "a_b", "a" * 13, "\u00e4", "a\u00b2", "a\u0661", "\t", "b\r", "a\ta",
+                     "point,"):
             for head in ("point", "line", "area"):
                 self.line_fails(f"{head} {word} b 1 2", len(head) + 2, NAME)
                 self.line_fails(f"{head} {word}", len(head) + 2, NAME)
@@ -188,7 +192,8 @@ class ReadMapTest(TextCase):
         self.reads("point point line 0 0", (("point", "line", ("point", (0, 0))),))
 
     def test_a_number_is_expected(self):
-        for word in ("-0", "00", "01", "-01", "+1", "1.0", "1e3", "-", "--1", "1-", "a", "1,", "\t1", "1\t", "0x1", "1_0", "\u0661",
+        for word in ("-0", "00", "01", "-01", "+1", "1.0", "1e3", "-", "--1", "1-", "a", "1,", "\t1", "1\t", "0x1",
+                     "1_0", "\u0661",
                      "\u00b2", "\uff11", "1\r", "\r", "(", "None", "0" * 5000, "-" + "0" * 5000, "1" * 5000 + "a"):
             self.line_fails(f"point a b {word} 2", 11, NUMBER)
             self.line_fails(f"point a b 1 {word}", 13, NUMBER)
@@ -200,9 +205,11 @@ class ReadMapTest(TextCase):
             self.line_fails(f"area a b 3 0 0 1 0 0 1 {word}", 24, NUMBER)
 
     def test_one_space_is_expected(self):
-        for line, column in (("point  a b 1 2", 7), ("point a  b 1 2", 9), ("point a b  1 2", 11), ("point a b 1  2", 13),
+        for line, column in (("point  a b 1 2", 7), ("point a  b 1 2", 9), ("point a b  1 2", 11),
+                             ("point a b 1  2", 13),
                              ("point a b 1    2", 13), ("line a b 0 0 5  5", 16), ("area a b  3 0 0 1 0 0 1", 10),
-                             ("area a b 3 0 0 1 0 0  1", 22), ("point  a", 7), ("point  a  b", 7), ("point a b 1 2  3", 15),
+                             ("area a b 3 0 0 1 0 0  1", 22), ("point  a", 7), ("point  a  b", 7),
+                             ("point a b 1 2  3", 15),
                              ("point a b 1 2   x", 15)):
             self.line_fails(line, column, SPACE)
         self.line_fails("point  A b 1 2", 7, SPACE)
@@ -211,9 +218,11 @@ class ReadMapTest(TextCase):
         self.line_fails("point a b 5000  2", 16, SPACE)
 
     def test_too_few(self):
-        for line in ("point", "line", "area", "point a", "line a", "area a", "point a b", "line a b", "area a b", "point a b 1",
+        for line in ("point", "line", "area", "point a", "line a", "area a", "point a b", "line a b", "area a b",
+                     "point a b 1",
                      "line a b 0", "line a b 0 0", "line a b 0 0 5", "line a b 0 0 5 5 9", "area a b 3", "area a b 3 0",
-                     "area a b 3 0 0 1 0 0", f"area a b {SQUARE} 3", f"area a b {SQUARE} 3 0 0 1 0 0", "area a b 40 1 2"):
+                     "area a b 3 0 0 1 0 0", f"area a b {SQUARE} 3", f"area a b {SQUARE} 3 0 0 1 0 0",
+                     "area a b 40 1 2"):
             self.line_fails(line, len(line) + 1, FEW)
             self.line_fails(line + "   ", len(line) + 1, FEW)
         # A line of too many points, or of points that give no shape, is read until its last word.
@@ -222,14 +231,18 @@ class ReadMapTest(TextCase):
             self.line_fails(line.rstrip(), len(line.rstrip()) + 1, FEW)
 
     def test_too_many(self):
-        for line, column in (("point a b 1 2 3", 15), ("point a b 1 2 3 4", 15), ("point a b 1 2 x", 15), ("point a b 5000 2 x", 18),
+        for line, column in (("point a b 1 2 3", 15), ("point a b 1 2 3 4", 15), ("point a b 1 2 x", 15),
+                             ("point a b 5000 2 x", 18),
                              ("point a b 1 2 \r", 15), ("point a b 1 2 \t ", 15)):
             self.line_fails(line, column, MANY)
 
     def test_no_shape(self):
-        for line in ("point a b 1001 0", "point a b 0 -1001", "point a b 0 " + "9" * 5000, "point a b -" + "9" * 5000 + " 0",
-                     "point a b 10000 0", "point a b 0 -99999", "line a b 0 0 0 0", "line a b 0 0 1 0 1 0", "line a b 0 0 1001 0",
-                     "line a b 0 0 5 " + "1" * 4301, f"line a b {numbers(LONG)}", "area a b 3 0 0 1 0 2 0", "area a b 3 0 0 0 1 1 0",
+        for line in ("point a b 1001 0", "point a b 0 -1001", "point a b 0 " + "9" * 5000,
+                     "point a b -" + "9" * 5000 + " 0",
+                     "point a b 10000 0", "point a b 0 -99999", "line a b 0 0 0 0", "line a b 0 0 1 0 1 0",
+                     "line a b 0 0 1001 0",
+                     "line a b 0 0 5 " + "1" * 4301, f"line a b {numbers(LONG)}", "area a b 3 0 0 1 0 2 0",
+                     "area a b 3 0 0 0 1 1 0",
                      "area a b 3 1 0 0 1 0 0", "area a b 3 0 0 1 0 0 1001", "area a b 4 0 0 4 0 0 4 4 4",
                      f"area a b {' '.join([SQUARE] * 7)}", f"area a b {SQUARE} 3 0 0 1 0 2 0"):
             self.line_fails(line, 1, SHAPE)
@@ -304,11 +317,13 @@ class ReadMapTest(TextCase):
 
     def test_as_another_reader(self):
         source = random.Random(131)
-        pieces = ["point", "line", "area", "a", "b", "c9", "A", "0", "1", "-3", "7", "5000", "3", "4", "2", "01", "x", "  ", "\n",
+        pieces = ["point", "line", "area", "a", "b", "c9", "A", "0", "1", "-3", "7", "5000", "3", "4", "2", "01", "x",
+                  "  ", "\n",
                   "0 0 4 0 0 4", "1 1", "\n", "point a b", "area c d 3", "9" * 4400]
         seen = {}
         for _ in range(4000):
-            text = " ".join(source.choice(pieces) for _ in range(source.randint(1, 12))).replace("\n ", "\n").replace(" \n", "\n")
+            text = " ".join(source.choice(pieces) for _ in range(source.randint(1, 12)))
+            text = text.replace("\n ", "\n").replace(" \n", "\n")
             self.check(text, seen)
         for _ in range(1500):
             things = some_things(source, 4)

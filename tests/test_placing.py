@@ -14,8 +14,15 @@ from trueatlas.placing import accepts, best, greedy
 
 # A cover of all candidates of the three labels, with the total 7.
 COVER = ("cover", ((((0, 0), (1, 0)), 4), (((1, 0), (2, 0)), 3)))
+# A split of the three labels.
+SPLIT = ("split", (1, 0), ("cover", ()), ("cover", ((((0, 0),), 4), (((2, 0),), 3))))
 BEST = (0, None, 0)
-ALL = [(0, 0), (1, 0), (2, 0)]
+# Six labels of eighteen candidates, for which a cover alone is far from enough.
+HARD = (("l0", 1, ((11, 2, 14, 5), (0, 1, 7, 4), (14, 7, 17, 9), (0, 12, 1, 20))),
+        ("l1", 2, ((4, 7, 6, 10), (5, 6, 12, 9), (9, 13, 10, 15))),
+        ("l2", 2, ((12, 11, 15, 21), (2, 7, 10, 9), (12, 11, 20, 14), (2, 11, 5, 18))), ("l3", 3, ((13, 8, 16, 10),)),
+        ("l4", 150, ((10, 11, 20, 13), (12, 13, 23, 16), (3, 13, 4, 17))),
+        ("l5", 58, ((1, 6, 4, 20), (4, 13, 15, 14), (3, 12, 12, 14))))
 
 
 def best_by_python(labels):
@@ -61,7 +68,8 @@ def is_evidence(labels, evidence, chosen, most):
             return False
     if sum(number for _, number in evidence[1]) > most:
         return False
-    return all(sum(number for group, number in evidence[1] if place in group) >= labels[place[0]][1] for place in chosen)
+    return all(sum(number for group, number in evidence[1] if place in group) >= labels[place[0]][1]
+               for place in chosen)
 
 
 def all_places(labels):
@@ -73,7 +81,8 @@ def around_points(source, many, reach, most):
     found = []
     for k in range(many):
         p = (source.randint(0, reach), source.randint(0, reach))
-        found.append((f"n{k}", source.randint(1, most), candidates_at(p, source.randint(3, 12), source.randint(2, 4), 1)))
+        wide, high = source.randint(3, 12), source.randint(2, 4)
+        found.append((f"n{k}", source.randint(1, most), candidates_at(p, wide, high, 1)))
     return tuple(found)
 
 
@@ -115,7 +124,8 @@ class GreedyTest(Case):
     def test_as_the_document_tells(self):
         source = random.Random(103)
         for _ in range(150):
-            labels = some_labels(source, source.randint(1, 10), 30, source.choice((4, 9, 15)), source.choice((2, 9, 1000)))
+            labels = some_labels(source, source.randint(1, 10), 30, source.choice((4, 9, 15)),
+                                 source.choice((2, 9, 1000)))
             found = greedy(labels)
             self.same(found, greedy_by_python(labels))
             self.assertIs(is_allowed(labels, found), True)
@@ -220,7 +230,8 @@ class BestTest(Case):
     def test_around_points(self):
         source = random.Random(106)
         for _ in range(12):
-            labels = around_points(source, source.choice((3, 5, 7)), source.choice((5, 12, 20)), source.choice((1, 3, 1000)))
+            labels = around_points(source, source.choice((3, 5, 7)), source.choice((5, 12, 20)),
+                                   source.choice((1, 3, 1000)))
             placement, evidence = best(labels)
             self.assertIs(accepts(labels, placement, evidence), True)
             self.assertTrue(is_evidence(labels, evidence, all_places(labels), weight_of(labels, placement)))
@@ -239,20 +250,22 @@ class BestTest(Case):
 
     def test_the_bound(self):
         source = random.Random(108)
-        seen = 0
-        while seen < 5:
-            labels = some_labels(source, 6, 18, 6, 2)
+        rows = [some_labels(source, 6, 18, 6, 2) for _ in range(20)] + [HARD, LABELS, (), spread(SPREAD)]
+        sizes = []
+        for labels in rows:
             many = count_of(best(labels)[1])
-            if many < 3:
-                continue
-            seen += 1
+            sizes.append(many)
             with mock.patch("trueatlas.placing.MOST_TUPLES", many):
                 self.assertEqual(count_of(best(labels)[1]), many)
-            for less in (1, many - 1):
+            for less in range(many):
                 with mock.patch("trueatlas.placing.MOST_TUPLES", less):
                     with self.assertRaises(TooLarge) as caught:
                         best(labels)
                     self.assertEqual(caught.exception.what, "search")
+        self.assertGreater(max(sizes), 10)
+
+    def test_a_hard_one(self):
+        self.assertGreater(count_of(self.check(HARD)), 10)
 
     def test_leaving_out_a_label(self):
         source = random.Random(109)
@@ -340,12 +353,17 @@ class AcceptsTest(Case):
         first, second = ((0, 0), (0, 1)), ((0, 1), (1, 0))
         self.yes(cover(first, ((1, 0),), ((2, 0),)), labels, (0, 0, 0))
         self.no(cover(first, ((1, 0),)), labels, (0, 0, 0))
-        for group in (((0, 1), (0, 0)), ((0, 0), (0, 0)), ((0, 0), (0, 1), (0, 1)), (), ((0, 0), (1, 0)), ((0, 0), (2, 0)),
-                      ((0, 0), (0, 1), (1, 0)), ((0, 0), (0, 2)), ((0, 0), (3, 0)), ((-1, 0), (0, 0)), ((0, -1), (0, 0)),
+        for group in (((0, 1), (0, 0)), ((0, 0), (0, 0)), ((0, 0), (0, 1), (0, 1)), (), ((0, 0), (1, 0)),
+                      ((0, 0), (2, 0)),
+                      ((0, 0), (0, 1), (1, 0)), ((0, 0), (0, 2)), ((0, 0), (3, 0)), ((-1, 0), (0, 0)),
+                      ((0, -1), (0, 0)),
                       [(0, 0), (0, 1)], ([0, 0], (0, 1)), ((0, 0), (0, 1, 0)), ((0, 0), (0,)), ((0, 0), None), (0, 0),
                       ((0, 0), (0, "1")), None, "ab", 0, True, ((),), (((0, 0), (0, 1)),)):
             self.no(cover(group, ((1, 0),), ((2, 0),)), labels, (0, 0, 0))
             self.no(cover(first, ((1, 0),), ((2, 0),), group), labels, (0, 0, 0))
+            # There is room for a number of 2 beside the middle one of the three labels, and nothing to cover.
+            self.no(("split", (1, 0), cover(group if group != ((0, 0), (1, 0)) else ()), SPLIT[3]))
+        self.yes(("split", (1, 0), cover(((0, 0),), ((0, 0), (1, 0))), SPLIT[3]))
         # Such a group would do if its candidates excluded each other.
         self.no(cover(second, ((0, 0), (2, 0))), labels, (0, 0, 0))
 
@@ -359,8 +377,10 @@ class AcceptsTest(Case):
         self.no(("cover", ((whole[::-1], 5),)), labels, (3,))
 
     def test_splits(self):
-        self.yes(("split", (1, 0), ("cover", ()), ("cover", ((((0, 0),), 4), (((2, 0),), 3)))))
+        self.yes(SPLIT)
         self.no(("split", (1, 0), ("cover", ()), ("cover", ((((0, 0),), 4),))))
+        for word in ("Split", "cover", "", None, b"split", ("split",), 0, True):
+            self.no((word, *SPLIT[1:]))
         # The totals may be less than the number, and candidates outside of the set may be in groups.
         self.yes(("split", (0, 0), ("cover", ((((1, 0), (2, 0)), 3),)), ("cover", ((((1, 0), (2, 0)), 5),))))
         self.yes(("split", (0, 0), ("cover", ((((2, 0),), 3),)),
@@ -371,7 +391,8 @@ class AcceptsTest(Case):
     def test_candidates_of_splits(self):
         right = (("cover", ((((2, 0),), 3),)), ("cover", ((((1, 0), (2, 0)), 5),)))
         self.yes(("split", (0, 0), *right))
-        for place in ((0, 1), (3, 0), (-1, 0), (0, -1), (0,), (0, 0, 0), [0, 0], None, 0, True, "00", (False, 0), (0, None),
+        for place in ((0, 1), (3, 0), (-1, 0), (0, -1), (0,), (0, 0, 0), [0, 0], None, 0, True, "00", (False, 0),
+                      (0, None),
                       ((0, 0),), (0.0, 0)):
             self.no(("split", place, *right))
         # The candidate must be in the set that is left.
@@ -438,7 +459,8 @@ class AcceptsTest(Case):
         if chosen and source.random() < 0.3:
             taken = source.choice(chosen)
             rest = [place for place in chosen if place != taken]
-            return ("split", taken, self.some_evidence(source, labels, rest[1:]), self.some_evidence(source, labels, rest))
+            return ("split", taken, self.some_evidence(source, labels, rest[1:]),
+                    self.some_evidence(source, labels, rest))
         pairs = excluding_by_python(labels)
         found = []
         for place in chosen:
@@ -491,7 +513,8 @@ class AcceptsTest(Case):
         for _ in range(50000):
             deep = (deep,)
         for evidence in (deep, ("cover", deep), ("split", deep, COVER, COVER), ("split", (0, 0), deep, deep),
-                         ("cover", ((deep, 1),)), ("cover", (((deep,), 1),)), ("cover", ((((0, 0),), deep),)), (deep, ())):
+                         ("cover", ((deep, 1),)), ("cover", (((deep,), 1),)), ("cover", ((((0, 0),), deep),)),
+                         (deep, ())):
             self.no(evidence)
         same = COVER
         for _ in range(40):
@@ -500,9 +523,11 @@ class AcceptsTest(Case):
 
     def test_wrong_forms(self):
         for evidence in ODD_VALUES + [
-                ("cover",), ("cover", (), ()), ("cover", COVER[1], None), ["cover", COVER[1]], ("cover", list(COVER[1])),
+                ("cover",), ("cover", (), ()), ("cover", COVER[1], None), ["cover", COVER[1]],
+                ("cover", list(COVER[1])),
                 ("Cover", COVER[1]), (b"cover", COVER[1]), (("cover",), COVER[1]), (None, COVER[1]), ("", COVER[1]),
-                ("split", COVER[1]), ("cover", COVER), ("cover", None), ("cover", 7), ("cover", "ab"), COVER[1], (COVER,),
+                ("split", COVER[1]), ("cover", COVER), ("cover", None), ("cover", 7), ("cover", "ab"), COVER[1],
+                (COVER,),
                 ("cover", COVER[1] + (None,)), ("cover", COVER[1] + (((0, 0),),)), ("cover", COVER[1] + ((),)),
                 ("cover", COVER[1] + ((((0, 0),), 1, 1),)), ("cover", (list(COVER[1][0]), COVER[1][1])),
                 ("split", (1, 0), ("cover", ())), ("split", (1, 0)), ("split",), ("split", (1, 0), None, None),

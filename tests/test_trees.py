@@ -185,7 +185,8 @@ class IsTreeTest(Case):
             return (box, (), ((box, names, ()), (box, others, ())))
         self.assertIs(is_tree(same, tree(("p03", "p01"), ("p00", "p04", "p02"))), True)
         for names, others in ((("p00", "p01"), ("p02", "p03")), (("p00", "p01"), ("p02", "p03", "p03")),
-                              (("p00", "p01"), ("p01", "p02", "p03", "p04")), (("p00", "p00"), ("p01", "p02", "p03", "p04")),
+                              (("p00", "p01"), ("p01", "p02", "p03", "p04")),
+                              (("p00", "p00"), ("p01", "p02", "p03", "p04")),
                               (("p00", "p01"), ("p02", "p03", "p05")), (("p00", "p01"), ("p02", "p03", "p04", "z")),
                               (("p00", "p01"), ("p02", "p03", None)), (("p00", "p01"), ("p02", "p03", ("p04",))),
                               (("p00", "p01"), ("p02", "p03", ["p04"])), (("p00", "p01"), ("p02", "p03", 4)),
@@ -201,14 +202,22 @@ class IsTreeTest(Case):
         root = FIVE_TREE[0]
         first, second = FIVE_TREE[2]
         self.assertIs(is_tree(FIVE, (root, (), (second, first))), True)
-        for tree in ((root, (), (first,)), (root, (), (FIVE_TREE,)), (root, (), (first, second, second)), (root, (), ()),
+        for tree in ((root, (), (first,)), (root, (), (FIVE_TREE,)), (root, (), (first, second, second)),
+                     (root, (), ()),
                      (root, ("p00",), (first, second)), (root, (), [first, second]), [root, (), (first, second)],
                      (root, [], (first, second)), (root, (), (list(first), second)), (list(root), (), (first, second)),
-                     (root, (), (first, None)), (root, (), (first, ())), (root, None, (first, second)), (root, (), None),
-                     (root, (), first), (root, ()), (root, (), (first, second), ()), (root, (), (first, (root, (), ()))),
+                     (root, (), (first, None)), (root, (), (first, ())), (root, None, (first, second)),
+                     (root, (), None),
+                     (root, (), first), (root, ()), (root, (), (first, second), ()),
+                     (root, (), (first, (root, (), ()))),
                      (root, (), ((first[0], first[1], None), second)), (root, (), ((first[0], first[1], []), second)),
                      (root, (), (first, (second[0], (), (second,)))), (root, (), "ab"), (root, "", (first, second))):
             self.no(tree)
+        # The names and the boxes are right, but names stand beside nodes, or a leaf has none.
+        self.no((root, ("p00",), ((around([(1, 5, 1, 5), (2, 1, 2, 1)]), ("p01", "p02"), ()), second)))
+        for empty in ((0, 0, 0, 0), root):
+            self.no((root, (), (FIVE_TREE, (empty, (), ()))))
+            self.no((root, (), ((empty, (), ()), FIVE_TREE)))
         self.no((TREE[0], (), (TREE,)), THINGS)
         self.no((TREE[0], TREE[1], (TREE, TREE)), THINGS)
 
@@ -258,7 +267,8 @@ class InBoxByTest(Case):
         things = dots((0, 0), (2, 2), (4, 4), (6, 6), (8, 8), (10, 10), (12, 12), (14, 14), (16, 16))
         tree = tree_of(things)
         self.assertEqual(len(all_nodes(tree)), 5)
-        for box, names, looked in (((16, 16, 20, 20), ["p08"], 3), ((17, 16, 20, 20), [], 1), ((-4, -4, 0, 0), ["p00"], 5),
+        for box, names, looked in (((16, 16, 20, 20), ["p08"], 3), ((17, 16, 20, 20), [], 1),
+                                   ((-4, -4, 0, 0), ["p00"], 5),
                                    ((8, 8, 9, 9), ["p04"], 5), ((9, 9, 9, 9), [], 3), ((16, 0, 20, 9), [], 3),
                                    ((0, 16, 0, 16), [], 3)):
             self.same(in_box_by(things, tree, box, "meets"), (names, looked))

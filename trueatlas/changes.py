@@ -15,7 +15,7 @@ def is_shift(value):
 
 def is_change(value):
     """Whether the value has the form of a change."""
-    if not isinstance(value, tuple) or not 2 <= len(value) <= 4 or not isinstance(value[0], str):
+    if not isinstance(value, tuple) or len(value) < 2:
         return False
     word = value[0]
     if word == "add":

@@ -7,20 +7,18 @@ from trueatlas.errors import TooLarge
 MOST_TUPLES = 2000
 
 
-def numbers_in(field, value):
-    """The numbers of a tuple of candidates; None stands for what is no candidate."""
-    found = []
-    for place in value:
-        is_place = is_pair(place) and is_whole(place[0]) and is_whole(place[1])
-        found.append(field.number_of.get(place) if is_place else None)
-    return found
+def number_at(field, value):
+    """The number of a candidate, or None if the value is no candidate."""
+    if not is_pair(value) or not is_whole(value[0]) or not is_whole(value[1]):
+        return None
+    return field.number_of.get(value)
 
 
 def is_group(field, value):
     """Whether the value is a group: at least one candidate, in ascending order, any two of which exclude each other."""
     if not isinstance(value, tuple) or not value:
         return False
-    numbers = numbers_in(field, value)
+    numbers = [number_at(field, place) for place in value]
     return None not in numbers and ascends(numbers) and do_all_exclude(field, set_of(numbers))
 
 
@@ -35,9 +33,19 @@ def does_cover(field, chosen, most, pairs):
         return False
     covered = [0] * len(field.places)
     for group, number in pairs:
-        for n in numbers_in(field, group):
-            covered[n] += number
+        for place in group:
+            covered[field.number_of[place]] += number
     return total_of(pairs) <= most and all(covered[n] >= field.weights[n] for n in members(chosen))
+
+
+def is_split(field, chosen, value):
+    """Whether a tuple has the form of a split at a candidate of a set, whatever is told to be evidence below it."""
+    return len(value) == 4 and value[0] == "split" and number_at(field, value[1]) in members(chosen)
+
+
+def parted(field, chosen, most, n):
+    """What a split at a candidate leaves to show: two sets, each with its number."""
+    return ((beside(field, chosen, n), most - field.weights[n]), (without(chosen, 1 << n), most))
 
 
 def is_right(field, value, most):
@@ -47,28 +55,19 @@ def is_right(field, value, most):
     while front:
         value, chosen, most = front.pop()
         many += 1
-        if many > MOST_TUPLES or not isinstance(value, tuple) or not 2 <= len(value) <= 4:
+        if many > MOST_TUPLES or not isinstance(value, tuple):
             return False
-        if len(value) == 2:
-            if value[0] != "cover" or not does_cover(field, chosen, most, value[1]):
-                return False
-        else:
-            n = numbers_in(field, value[1:2])[0]
-            if len(value) != 4 or value[0] != "split" or n is None or n not in members(chosen):
-                return False
-            front.append((value[3], without(chosen, 1 << n), most))
-            front.append((value[2], beside(field, chosen, n), most - field.weights[n]))
+        if is_split(field, chosen, value):
+            parts = parted(field, chosen, most, field.number_of[value[1]])
+            front.extend([(below, *part) for below, part in zip(value[2:], parts)])
+        elif len(value) != 2 or value[0] != "cover" or not does_cover(field, chosen, most, value[1]):
+            return False
     return True
 
 
 def told_cover(field, pairs):
     """The cover as it is told, with its candidates instead of their numbers."""
     return ("cover", tuple([(tuple([field.places[n] for n in members(group)]), number) for group, number in pairs]))
-
-
-def parted(field, chosen, most, n):
-    """What a split at a candidate leaves to show: two sets, each with its number."""
-    return ((beside(field, chosen, n), most - field.weights[n]), (without(chosen, 1 << n), most))
 
 
 def lack_at(field, chosen, most, n):
